@@ -1,0 +1,1 @@
+"""The ways between two nodes of a small net, one after another."""

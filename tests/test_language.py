@@ -1,0 +1,108 @@
+"""That the package keeps to the small part of the language; the numbers are those of its rules."""
+
+import ast
+import pathlib
+import re
+import unittest
+
+PACKAGE = pathlib.Path(__file__).resolve().parent.parent / "ferryways"
+STATEMENTS = (
+    ast.Assign, ast.AugAssign, ast.AnnAssign, ast.If, ast.While, ast.For, ast.Return, ast.Break, ast.Continue,
+    ast.Pass, ast.Raise, ast.Try, ast.Expr, ast.FunctionDef, ast.ClassDef, ast.ImportFrom,
+)
+NOT_USED = (
+    ast.SetComp, ast.DictComp, ast.GeneratorExp, ast.NamedExpr, ast.Starred, ast.Div, ast.Await, ast.Yield,
+    ast.YieldFrom, ast.MatMult,
+)
+OWN_NAMES = set(
+    "len range enumerate zip min max sum abs sorted reversed int str bool list tuple dict set frozenset isinstance ord "
+    "repr any all divmod KeyError ZeroDivisionError StopIteration ValueError IndexError LookupError Exception".split()
+)
+OWN_METHODS = set(
+    "append clear copy count endswith extend find get index insert items join keys pop remove replace reverse "
+    "setdefault split startswith strip update values bit_length".split()
+)
+WORDS = re.compile(
+    r"\b(type|typing|typing_extensions|enum|Enum|Flag|Generic|Protocol|ABC|namedtuple|NamedTuple|TypedDict)\b"
+    r"|dataclass|overload|contextmanager"
+)
+
+
+def bound_names(tree):
+    names = set()
+    for node in ast.walk(tree):
+        if isinstance(node, (ast.FunctionDef, ast.ClassDef)):
+            names.add(node.name)
+        elif isinstance(node, ast.arg):
+            names.add(node.arg)
+        elif isinstance(node, ast.Name) and isinstance(node.ctx, ast.Store):
+            names.add(node.id)
+        elif isinstance(node, ast.alias):
+            names.add(node.asname or node.name)
+    return names
+
+
+class Language(unittest.TestCase):
+    def files(self):
+        paths = sorted(path for path in PACKAGE.rglob("*") if "__pycache__" not in path.parts)
+        self.assertIn(PACKAGE / "net.py", paths)
+        for path in paths:
+            text = path.read_bytes().decode("ascii")
+            yield path, text, ast.parse(text)
+
+    def test_files_and_signs(self):
+        for path, text, tree in self.files():
+            self.assertRegex(path.name, r"^[a-z0-9_]+\.py$", "L1, L14")
+            self.assertRegex(text, r"\A[ -~\n]*\Z", "L14")
+            self.assertLessEqual(len(text.splitlines()), 400, "L10")
+            self.assertLessEqual(max(len(line) for line in text.splitlines()), 120, "L10")
+            self.assertIsNone(WORDS.search(text), "L17")
+
+    def test_forms(self):
+        for path, text, tree in self.files():
+            for node in ast.walk(tree):
+                where = f"line {getattr(node, 'lineno', 0)}"
+                if isinstance(node, ast.stmt):
+                    self.assertIsInstance(node, STATEMENTS, f"L6, {where}")
+                self.assertNotIsInstance(node, NOT_USED, f"L7, {where}")
+                if isinstance(node, ast.Constant):
+                    self.assertNotIsInstance(node.value, (float, bytes, complex), f"L7, {where}")
+                if isinstance(node, ast.Assign):
+                    self.assertEqual(len(node.targets), 1, f"L6, {where}")
+                if isinstance(node, (ast.For, ast.While)):
+                    self.assertEqual(node.orelse, [], f"L6, {where}")
+                if isinstance(node, ast.FunctionDef):
+                    self.assertLessEqual(node.end_lineno - node.lineno + 1, 40, f"L10, {where}")
+                if isinstance(node, (ast.FunctionDef, ast.ClassDef)):
+                    self.assertEqual(node.decorator_list, [], f"L4, L5, {where}")
+
+    def test_names(self):
+        for path, text, tree in self.files():
+            bound = bound_names(tree)
+            self.assertEqual(sorted(bound & OWN_NAMES), [], "L8, L15")
+            self.assertEqual(sorted(name for name in bound if name.startswith("_") and name != "__init__"), [], "L12")
+            for node in ast.walk(tree):
+                if isinstance(node, ast.Name) and isinstance(node.ctx, ast.Load):
+                    self.assertIn(node.id, bound | OWN_NAMES, f"L8, line {node.lineno}")
+
+    def test_methods_and_values(self):
+        for path, text, tree in self.files():
+            given = {
+                node.attr for node in ast.walk(tree)
+                if isinstance(node, ast.Attribute) and isinstance(node.ctx, ast.Store)
+            }
+            for node in ast.walk(tree):
+                if isinstance(node, ast.Attribute) and isinstance(node.ctx, ast.Load):
+                    self.assertIn(node.attr, bound_names(tree) | given | OWN_METHODS, f"L25, line {node.lineno}")
+
+    def test_imports(self):
+        for path, text, tree in self.files():
+            for node in ast.walk(tree):
+                if isinstance(node, ast.ImportFrom):
+                    self.assertEqual(node.level, 0, "L2")
+                    self.assertEqual(node.module.split(".")[0], "ferryways", "L2, L16")
+                    self.assertNotIn("*", [name.name for name in node.names], "L2")
+
+
+if __name__ == "__main__":
+    unittest.main()
