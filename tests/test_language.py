@@ -8,7 +8,7 @@ import unittest
 PACKAGE = pathlib.Path(__file__).resolve().parent.parent / "ferryways"
 STATEMENTS = (
     ast.Assign, ast.AugAssign, ast.AnnAssign, ast.If, ast.While, ast.For, ast.Return, ast.Break, ast.Continue,
-    ast.Pass, ast.Raise, ast.Try, ast.Expr, ast.FunctionDef, ast.ClassDef, ast.ImportFrom,
+    ast.Pass, ast.Raise, ast.Try, ast.Expr, ast.FunctionDef, ast.ClassDef,
 )
 NOT_USED = (
     ast.SetComp, ast.DictComp, ast.GeneratorExp, ast.NamedExpr, ast.Starred, ast.Div, ast.Await, ast.Yield,
@@ -21,6 +21,11 @@ OWN_NAMES = set(
 OWN_METHODS = set(
     "append clear copy count endswith extend find get index insert items join keys pop remove replace reverse "
     "setdefault split startswith strip update values bit_length".split()
+)
+NOT_NAMED = set(
+    "register mro elements open input version_info with_traceback add_note attrgetter breakpoint builtins compile "
+    "copyright credits delattr dir eval exec exit gc getattr globals hasattr help id importlib license locals "
+    "methodcaller os quit setattr super type vars sys format format_map sort args encode".split()
 )
 WORDS = re.compile(
     r"\b(type|typing|typing_extensions|enum|Enum|Flag|Generic|Protocol|ABC|namedtuple|NamedTuple|TypedDict)\b"
@@ -95,13 +100,66 @@ class Language(unittest.TestCase):
                 if isinstance(node, ast.Attribute) and isinstance(node.ctx, ast.Load):
                     self.assertIn(node.attr, bound_names(tree) | given | OWN_METHODS, f"L25, line {node.lineno}")
 
-    def test_imports(self):
+    def test_imports_nothing(self):
         for path, text, tree in self.files():
             for node in ast.walk(tree):
-                if isinstance(node, ast.ImportFrom):
-                    self.assertEqual(node.level, 0, "L2")
-                    self.assertEqual(node.module.split(".")[0], "ferryways", "L2, L16")
-                    self.assertNotIn("*", [name.name for name in node.names], "L2")
+                self.assertNotIsInstance(node, (ast.Import, ast.ImportFrom), "the interface, of what it imports")
+
+    def test_functions_have_plain_parameters(self):
+        for path, text, tree in self.files():
+            for node in ast.walk(tree):
+                if isinstance(node, ast.arguments):
+                    self.assertEqual([node.vararg, node.kwarg], [None, None], "L4")
+                    self.assertEqual(node.kwonlyargs + node.posonlyargs, [], "L4")
+
+    def test_expressions(self):
+        for path, text, tree in self.files():
+            for node in ast.walk(tree):
+                where = f"line {getattr(node, 'lineno', 0)}"
+                if isinstance(node, ast.ListComp):
+                    self.assertEqual(len(node.generators), 1, f"L7, {where}")
+                    self.assertLessEqual(len(node.generators[0].ifs), 1, f"L7, {where}")
+                if isinstance(node, ast.Compare) and any(isinstance(op, (ast.Is, ast.IsNot)) for op in node.ops):
+                    self.assertIsInstance(node.comparators[0], ast.Constant, f"L20, {where}")
+                self.assertNotIsInstance(node, (ast.Pow, ast.Set), f"L24, L27, {where}")
+                if isinstance(node, ast.Constant) and isinstance(node.value, str):
+                    self.assertNotIn("%", node.value, f"L27, {where}")
+
+    def test_names_not_used(self):
+        for path, text, tree in self.files():
+            used = bound_names(tree) | {node.id for node in ast.walk(tree) if isinstance(node, ast.Name)}
+            used |= {node.attr for node in ast.walk(tree) if isinstance(node, ast.Attribute)}
+            self.assertEqual(sorted(used & NOT_NAMED), [], "L17, L26")
+
+    def test_no_name_is_a_method_and_a_value(self):
+        methods = set()
+        values = set()
+        for path, text, tree in self.files():
+            for node in ast.walk(tree):
+                if isinstance(node, ast.ClassDef):
+                    names = [part.name for part in node.body if isinstance(part, ast.FunctionDef)]
+                    self.assertEqual(len(names), len(set(names)), "L18")
+                    methods |= set(names)
+                if isinstance(node, ast.Attribute) and isinstance(node.ctx, ast.Store):
+                    values.add(node.attr)
+        self.assertEqual(sorted(methods & values), [], "L18")
+
+    def test_walked_at_once(self):
+        """The walks that are not kept stand behind a for's in, or first in a call that walks them."""
+        for path, text, tree in self.files():
+            walks = [
+                node for node in ast.walk(tree)
+                if isinstance(node, ast.Call) and isinstance(node.func, ast.Name)
+                and node.func.id in ("zip", "enumerate", "reversed", "range")
+            ]
+            places = []
+            for node in ast.walk(tree):
+                if isinstance(node, (ast.For, ast.comprehension)):
+                    places.append(node.iter)
+                if isinstance(node, ast.Call) and isinstance(node.func, ast.Name) and node.args:
+                    places.append(node.args[0])
+            for node in walks:
+                self.assertIn(node, places, f"L23, line {node.lineno}")
 
 
 if __name__ == "__main__":

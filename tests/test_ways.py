@@ -3,46 +3,15 @@
 import itertools
 import unittest
 
-from ferryways.net import Net
-from helper import TOP, arc, ask, begin, close, cut, dist, last, length_of, search, some_numbers, way
-
-
-def rows_between(n, s, t):
-    """Every row of nodes, none twice, from s to t."""
-    if s == t:
-        return [(s,)]
-    others = [v for v in range(n) if v not in (s, t)]
-    return [
-        (s, *middle, t) for many in range(len(others) + 1) for middle in itertools.permutations(others, many)
-    ]
-
-
-def length_by_the_words(arcs, closed, row):
-    """The length of a row as the words tell it, or -2."""
-    steps = list(zip(row, row[1:]))
-    if any(v in closed for v in row) or any(step not in arcs for step in steps):
-        return -2
-    return sum(arcs[step] for step in steps)
+from helper import (
+    TOP, arc, ask, begin, close, cut, dist, full_net, last, length_by_the_words, length_of, made, pairs_of,
+    rows_between, search, some_net, way,
+)
 
 
 def shortest_by_the_words(n, arcs, closed, s, t):
     lengths = [length_by_the_words(arcs, closed, row) for row in rows_between(n, s, t)]
     return min((length for length in lengths if length >= 0), default=-2)
-
-
-def some_net(n, seed, most_length, of_eight):
-    """Arcs, about of_eight of eight there can be, and closed nodes, about one of eight."""
-    numbers = some_numbers(seed)
-    arcs = {}
-    for a, b in itertools.permutations(range(n), 2):
-        if next(numbers) // 8192 < of_eight:
-            arcs[(a, b)] = next(numbers) % (most_length + 1)
-    closed = [v for v in range(n) if next(numbers) // 8192 == 0]
-    return arcs, closed
-
-
-def made(n, arcs, closed):
-    return [begin(n)] + [arc(a, b, arcs[(a, b)]) for a, b in arcs] + [close(v) for v in closed]
 
 
 class Dist(unittest.TestCase):
@@ -95,9 +64,9 @@ class Dist(unittest.TestCase):
 
     def test_eight_nodes_with_all_arcs(self):
         for seed, most_length in [(1, 65535), (2, 9), (3, 1)]:
-            arcs = some_net(8, seed, most_length, 8)[0]
+            arcs = full_net(8, seed, most_length)
             self.assertEqual(len(arcs), 56)
-            calls = made(8, arcs, [])
+            calls = made(8, arcs)
             for s, t in [(0, 7), (7, 0), (3, 4), (5, 5)]:
                 with self.subTest(seed=seed, s=s, t=t):
                     self.assertEqual(last(*calls, dist(s, t)), shortest_by_the_words(8, arcs, [], s, t))
@@ -107,7 +76,7 @@ class Dist(unittest.TestCase):
         arcs = {pair: 65535 for pair in itertools.permutations(range(8), 2)}
         for step in zip(order, order[1:]):
             arcs[step] = 9362
-        calls = made(8, arcs, [])
+        calls = made(8, arcs)
         self.assertEqual(last(*calls, dist(0, 3)), 7 * 9362)
         self.assertEqual(last(*calls, dist(3, 0)), 65535)
         self.assertEqual(last(*calls, close(7), dist(0, 3)), 65535)
@@ -117,7 +86,7 @@ class Dist(unittest.TestCase):
             n = 1 + seed % 6
             arcs, closed = some_net(n, 100 + seed, (3, 20, 65535)[seed % 3], 3 + seed % 4)
             calls = made(n, arcs, closed)
-            pairs = list(itertools.product(range(n), repeat=2))
+            pairs = pairs_of(n)
             found = ask(*calls, *[dist(s, t) for s, t in pairs])[len(calls):]
             for (s, t), number in zip(pairs, found):
                 with self.subTest(seed=seed, s=s, t=t):
@@ -222,49 +191,6 @@ class Search(unittest.TestCase):
             ask(begin(2), arc(0, 1, 4), search(0, 1), search(0, 2), length_of(0, 1), dist(0, 1), way(0, 1)),
             [0, 0, 0, -1, 4, 4, 4],
         )
-
-
-class SearchKept(unittest.TestCase):
-    """What ends a search; no call of this part tells it, so the net is looked at."""
-
-    def searching(self):
-        net = Net()
-        self.assertIsNone(net.search)
-        net.begin(3)
-        net.set_arc(0, 1, 5)
-        self.assertEqual(net.start_search(0, 2), 0)
-        self.assertEqual(net.search, (0, 2, 0))
-        return net
-
-    def test_ended_by_what_answers_0(self):
-        ends = [
-            lambda net: net.begin(3), lambda net: net.set_arc(0, 2, 1), lambda net: net.set_arc(0, 1, 5),
-            lambda net: net.cut_arc(0, 1), lambda net: net.close_node(1, 1), lambda net: net.close_node(1, 0),
-        ]
-        for place, change in enumerate(ends):
-            with self.subTest(place=place):
-                net = self.searching()
-                self.assertEqual(change(net), 0)
-                self.assertIsNone(net.search)
-
-    def test_goes_on_else(self):
-        stays = [
-            lambda net: net.begin(0), lambda net: net.begin(9), lambda net: net.set_arc(0, 0, 1),
-            lambda net: net.set_arc(0, 1, 65536), lambda net: net.set_arc(0, 3, 1), lambda net: net.cut_arc(0, 2),
-            lambda net: net.cut_arc(0, 3), lambda net: net.close_node(3, 1), lambda net: net.start_search(0, 3),
-            lambda net: net.arc_length(0, 1), lambda net: net.distance(0, 1), lambda net: net.way_length([0, 1]),
-            lambda net: net.way_length([]),
-        ]
-        for place, call in enumerate(stays):
-            with self.subTest(place=place):
-                net = self.searching()
-                call(net)
-                self.assertEqual(net.search, (0, 2, 0))
-
-    def test_another_takes_its_place(self):
-        net = self.searching()
-        self.assertEqual(net.start_search(1, 0), 0)
-        self.assertEqual(net.search, (1, 0, 0))
 
 
 if __name__ == "__main__":
